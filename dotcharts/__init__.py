@@ -1,0 +1,1 @@
+"""Charts in whole dots."""
