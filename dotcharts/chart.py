@@ -15,6 +15,16 @@ class Chart:
         self.rows = []
         self.look = Look(SIDE_BY_SIDE, 16, 16, 10)
 
+    def columns(self):
+        """How many columns there are, once there are rows."""
+        return len(self.rows[0])
+
+    def number_at(self, row, column):
+        """The number of a row in a column, None if there's none."""
+        if row >= len(self.rows) or column >= self.columns():
+            return None
+        return self.rows[row][column]
+
     def upright_axis(self):
         """The axis from below to above, for every kind but the ring."""
         return axis_of(upright_numbers(self.look.kind, self.rows), self.look.steps)

@@ -1,8 +1,11 @@
 """Where lists of calls are handed in and their answers are given back."""
 
+from dotcharts.bars import Bars
 from dotcharts.chart import Chart, are_rows
-from dotcharts.look import Look, POINTS, RING
+from dotcharts.look import LINES, Look, POINTS, RING
+from dotcharts.points import Points
 from dotcharts.reading import Reader, row_numbers
+from dotcharts.ring import Ring, ring_parts, shares_of
 
 UPRIGHT = 0
 ALONG = 1
@@ -51,8 +54,50 @@ def told_axis(shown, dots):
     return [shown.steps, shown.start, shown.step] + shown.step_dots(dots)
 
 
+def place(chart, given, lists):
+    """Tells where a number lies."""
+    if not chart.rows:
+        return [-4]
+    found = drawn(chart).place_of(given[0], given[1])
+    if found is None:
+        return [-2]
+    return [0] + found
+
+
+def click(chart, given, lists):
+    """Tells the row and column of what lies at a dot."""
+    if not chart.rows:
+        return [-4]
+    found = drawn(chart).one_at(given[0], given[1])
+    if found is None:
+        return [0]
+    return [1] + found
+
+
+def drawn(chart):
+    """What the chart shows: points, a ring or bars."""
+    if chart.look.kind in (LINES, POINTS):
+        return Points(chart)
+    if chart.look.kind == RING:
+        return Ring(ring_parts(chart.rows[0]), chart.look)
+    return Bars(chart)
+
+
+def shares(chart, given, lists):
+    """Tells for each part of the ring its share of a whole."""
+    whole = given[0]
+    if not 1 <= whole <= 1000000:
+        return [-1]
+    if not chart.rows:
+        return [-4]
+    parts = ring_parts(chart.rows[0])
+    if sum(parts) == 0:
+        return [-3]
+    return [0] + shares_of(parts, whole)
+
+
 # Each call stands at the place that is its number.
-CALLS = (begins, data, look, axis)
+CALLS = (begins, data, look, axis, place, click, shares)
 
 
 def answers(calls):

@@ -21,3 +21,7 @@ class Look:
         if self.kind not in (SIDE_BY_SIDE, STACKED, LINES, POINTS, RING):
             return False
         return 16 <= self.wide <= 4096 and 16 <= self.high <= 4096 and 2 <= self.steps <= 64
+
+    def band_of(self, column, columns):
+        """The dots along of one of so many columns: from one to another, not that one."""
+        return (column * self.wide // columns, (column + 1) * self.wide // columns)

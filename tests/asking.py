@@ -25,6 +25,18 @@ def axis(which):
     return [3, 1, which, 0]
 
 
+def place(i, j):
+    return [4, 2, i, j, 0]
+
+
+def click(x, y):
+    return [5, 2, x, y, 0]
+
+
+def shares(whole):
+    return [6, 1, whole, 0]
+
+
 def asked(*calls):
     """Each call's answer, as a list, all asked of one new object."""
     told = answers([number for call in calls for number in call])

@@ -88,6 +88,12 @@ class NumbersTest(unittest.TestCase):
         self.shows(1, [[40, None], [None, -30], [None, None]], -30, 40)
         self.shows(1, [[None, None], [None, None]], 0, 0)
 
+    def test_on_one_another_parts_even_the_smallest_by_their_sign(self):
+        self.shows(1, [[1], [-1], [0]], -1, 1)
+        self.shows(1, [[5], [-1]], -1, 5)
+        self.shows(1, [[-5], [1]], -5, 1)
+        self.shows(1, [[-1], [-1], [-1]], -3, 0)
+
     def test_on_one_another_is_not_by_rows(self):
         self.shows(1, [[50, 60, 70]], 0, 70)
         self.shows(1, [[50], [60], [70]], 0, 180)

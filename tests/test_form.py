@@ -72,6 +72,18 @@ class FormTest(unittest.TestCase):
             read = {node.id for node in ast.walk(tree) if isinstance(node, ast.Name)}
             self.assertEqual(sorted(read - bound - set(BUILT_IN)), [], path)
 
+    def test_no_name_is_a_method_here_and_a_value_there(self):
+        methods, values = set(), set()
+        for path in FILES:
+            for node in ast.walk(ast.parse(path.read_text())):
+                if isinstance(node, ast.ClassDef):
+                    inside = [method.name for method in node.body if isinstance(method, ast.FunctionDef)]
+                    self.assertEqual(len(inside), len(set(inside)), (path.name, node.name))
+                    methods.update(inside)
+                elif isinstance(node, ast.Attribute) and isinstance(node.ctx, ast.Store):
+                    values.add(node.attr)
+        self.assertEqual(methods & values, set())
+
 
 if __name__ == "__main__":
     unittest.main()
